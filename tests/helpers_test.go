@@ -53,6 +53,8 @@ func mark(v reflect.Value) {
 	switch v.Kind() {
 	case reflect.Int:
 		v.SetInt(spareMark)
+	case reflect.Bool:
+		v.SetBool(true)
 	case reflect.Struct:
 		for i := range v.NumField() {
 			mark(v.Field(i))
@@ -79,6 +81,8 @@ func dump(v reflect.Value) string {
 		}
 	case reflect.Int:
 		text.WriteString(strconv.FormatInt(v.Int(), 10))
+	case reflect.Bool:
+		text.WriteString(strconv.FormatBool(v.Bool()))
 	case reflect.String:
 		text.WriteString(strconv.Quote(v.String()))
 	}

@@ -176,6 +176,18 @@ func queryChanges() []func(*impl.Query) {
 	return changes
 }
 
+// changedQueries returns the changed copies of the sample query.
+func changedQueries() []impl.Query {
+	_, sample := sampleQuery()
+	var queries []impl.Query
+	for _, change := range queryChanges() {
+		q := cloned(sample)
+		change(&q)
+		queries = append(queries, q)
+	}
+	return queries
+}
+
 func TestQueryLimits(t *testing.T) {
 	if impl.MaxAtoms != 3 || impl.MaxVars != 4 {
 		t.Error(impl.MaxAtoms, impl.MaxVars)
@@ -208,9 +220,7 @@ func TestIsValidQuery(t *testing.T) {
 		t.Error("the sample query is refused")
 	}
 	accepted := 0
-	for i, change := range queryChanges() {
-		q := cloned(sample)
-		change(&q)
+	for i, q := range changedQueries() {
 		q = roomy(q)
 		want, text := isPlainQuery(relations, q), ""
 		if want {
@@ -362,9 +372,7 @@ func TestKeyVariablesOfOddRelations(t *testing.T) {
 func TestEqualQueries(t *testing.T) {
 	_, sample := sampleQuery()
 	queries := []impl.Query{sample, {}, {Atoms: []impl.Atom{atom(0)}}, {Free: []int{0}}, {VariableCount: 1}}
-	for _, change := range queryChanges() {
-		q := cloned(sample)
-		change(&q)
+	for _, q := range changedQueries() {
 		queries = append(queries, roomy(q))
 	}
 	for _, a := range queries {
@@ -480,12 +488,7 @@ func TestParseQueryRefuses(t *testing.T) {
 func TestRemoveAtom(t *testing.T) {
 	_, sample := sampleQuery()
 	queries := []impl.Query{sample, {}, {VariableCount: -3, Free: []int{9, 9}}, {Atoms: []impl.Atom{atom(0)}}}
-	for _, change := range queryChanges() {
-		q := cloned(sample)
-		change(&q)
-		queries = append(queries, q)
-	}
-	for _, q := range queries {
+	for _, q := range append(queries, changedQueries()...) {
 		q = roomy(q)
 		for _, index := range hostileInts {
 			want := cloned(q)
