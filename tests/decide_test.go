@@ -195,7 +195,8 @@ func TestChangedJustifications(t *testing.T) {
 	counts := map[bool]int{}
 	for number, q := range closedQuestions(7) {
 		q = q.roomy()
-		others := []impl.Justification{{}, {Proof: [][]int{{}}, Repair: []int{0}, Derivation: []impl.DerivationStep{{Block: -1}}}}
+		rewriting, _ := impl.Rewriting(q.db.Relations, q.query)
+		others := []impl.Justification{{}, {Proof: [][]int{{}}, Repair: []int{0}, Derivation: []impl.DerivationStep{{Block: -1}}, Rewriting: rewriting}}
 		for method := 1; method <= 3; method++ {
 			j, _ := impl.DecideBy(q.db, q.query, method)
 			others = append(others, j)
@@ -235,6 +236,7 @@ func TestJustificationThatStatesSomethingFalse(t *testing.T) {
 				continue
 			}
 			j.Certain = !isCertain
+			j.Rewriting, _ = impl.Rewriting(q.db.Relations, q.query)
 			j.Repair, _ = impl.NthRepair(q.db, 0)
 			for ok := true; ok; j.Repair, ok = impl.NextRepair(q.db, j.Repair) {
 				if impl.IsValidJustification(q.db, q.query, j) {
