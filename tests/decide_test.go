@@ -70,6 +70,16 @@ func plainDecision(q question, method int) (impl.Justification, bool) {
 	return j, true
 }
 
+// plainCertainty decides by the class of the query.
+func plainCertainty(q question) (impl.Justification, bool) {
+	class := plainClass(plainAttacks(schemaQuery{q.db.Relations, q.query}))
+	j, ok := plainDecision(q, class)
+	if !ok && class == impl.ClassFixpoint {
+		return plainDecision(q, impl.ClassConp)
+	}
+	return j, ok
+}
+
 // closedQuestions returns the questions without their free variables, and some with them.
 func closedQuestions(facts int) []question {
 	var closed []question
@@ -114,11 +124,7 @@ func TestDecideCertainty(t *testing.T) {
 	counts := map[int]int{}
 	for _, q := range append(closedQuestions(10), namedQuestions()...) {
 		q = q.roomy()
-		class := plainClass(plainAttacks(schemaQuery{q.db.Relations, q.query}))
-		want, wantOK := plainDecision(q, class)
-		if !wantOK && class == impl.ClassFixpoint {
-			want, wantOK = plainDecision(q, impl.ClassConp)
-		}
+		want, wantOK := plainCertainty(q)
 		check := watch(t, q.db, q.query)
 		got, ok := impl.DecideCertainty(q.db, q.query)
 		again, _ := impl.DecideCertainty(q.db, q.query)

@@ -70,6 +70,18 @@ func violates(db impl.Database, c impl.DenialConstraint, first, second int) bool
 	return c.Comparison == 1 && x == y || c.Comparison == 2 && x < y
 }
 
+// plainConflicts returns the conflict graph of the facts, without the program.
+func plainConflicts(db impl.Database, constraints []impl.DenialConstraint) graph {
+	g := graph{n: len(db.Facts)}
+	for _, e := range pairs(g.n) {
+		isViolated := func(c impl.DenialConstraint) bool { return violates(db, c, e.A, e.B) || violates(db, c, e.B, e.A) }
+		if keyText(db, e.A) == keyText(db, e.B) || slices.ContainsFunc(constraints, isViolated) {
+			g.edges = append(g.edges, e)
+		}
+	}
+	return g
+}
+
 // constrainedDatabases returns databases whose facts meet in many columns.
 func constrainedDatabases() []impl.Database {
 	databases := []impl.Database{
@@ -228,13 +240,7 @@ func TestConflictEdges(t *testing.T) {
 		db = roomy(db)
 		for count := range 5 {
 			constraints := roomy(sampleConstraints(int64(100*i+count), count))
-			var want []impl.ConflictEdge
-			for _, e := range pairs(len(db.Facts)) {
-				isViolated := func(c impl.DenialConstraint) bool { return violates(db, c, e.A, e.B) || violates(db, c, e.B, e.A) }
-				if keyText(db, e.A) == keyText(db, e.B) || slices.ContainsFunc(constraints, isViolated) {
-					want = append(want, e)
-				}
-			}
+			want := plainConflicts(db, constraints).edges
 			check := watch(t, db, constraints)
 			got, again := impl.ConflictEdges(db, constraints), impl.ConflictEdges(db, constraints)
 			check(got, again)
